@@ -1,0 +1,77 @@
+"""What a shop holds: planks, gauges, pupils and instruments."""
+
+from violinmaker.refusals import NO_REFUSAL, NONE_THERE, NOT_IN_SHOP
+
+IN_SHOP = 0
+LENT = 1
+SOLD = 2
+
+ZONES = 6
+THICKEST = 50
+STRINGS = 4
+
+
+class Plank:
+    """A plank; aged tells how many days it had lain on day 0, whenever it came."""
+
+    def __init__(self, kind, tree, density, aged):
+        self.kind = kind
+        self.tree = tree
+        self.density = density
+        self.aged = aged
+        self.used = False
+
+
+class Gauge:
+    """Strings of one mass (milligrams a metre), and how many are left of them."""
+
+    def __init__(self, mass, left):
+        self.mass = mass
+        self.left = left
+
+
+class Pupil:
+    """A pupil's arm (millimetres), and what counts for them when they buy."""
+
+    def __init__(self, arm):
+        self.arm = arm
+        self.credit = 0
+
+
+class Instrument:
+    """An instrument; strings holds a gauge's number, or None, for each string."""
+
+    def __init__(self, size, planks, day):
+        self.size = size
+        self.planks = planks
+        self.plates = [[THICKEST] * ZONES, [THICKEST] * ZONES]
+        self.coats = 0
+        self.dry_day = day
+        self.strings = [None] * STRINGS
+        self.place = IN_SHOP
+        self.pupil = None
+        self.since = None
+
+
+class Shop:
+    """All that changes between a start and the next one, and what that start told."""
+
+    def __init__(self, drying, rent, most, weights):
+        self.drying = drying
+        self.rent = rent
+        self.most = most
+        self.weights = weights
+        self.day = 0
+        self.planks = []
+        self.gauges = []
+        self.pupils = []
+        self.instruments = []
+
+
+def refusal_in_shop(shop, k):
+    """The refusal that is due ahead of all else of a call for instruments in the shop."""
+    if k >= len(shop.instruments):
+        return NONE_THERE
+    if shop.instruments[k].place != IN_SHOP:
+        return NOT_IN_SHOP
+    return NO_REFUSAL
