@@ -24,7 +24,8 @@ def random_call(chance):
              string(k, chance.randrange(5), chance.randrange(4)), string(k, chance.randrange(4), chance.randrange(3)),
              string(k, chance.randrange(4), chance.randrange(3)), string(k, chance.randrange(4), chance.randrange(3)),
              unstring(k, chance.randrange(5)), lend(k, p), lend(p, p), lend(p, p), give_back(k),
-             buy(k, p, 500 * chance.randrange(2)), grow(p, chance.randrange(3)), thin(k, chance.randrange(2), chance.randrange(6)))
+             buy(k, p, 500 * chance.randrange(2)), grow(p, chance.randrange(3)),
+             thin(k, chance.randrange(2), chance.randrange(6)))
     return chance.choice(calls)
 
 

@@ -1,7 +1,7 @@
 import unittest
 
-from tests.line import HIGHEST, begun, buy, coat, days, days_to, gauge, give_back, last, lend, make, pupil
-from tests.line import start, string, strung, tail, unstring, varnished, whole, wood
+from tests.line import HIGHEST, begun, buy, coat, days, days_to, gauge, give_back, grow, last, lend, make, owes, pupil
+from tests.line import size_of, small, start, string, strung, tail, unstring, varnished, whole, wood
 
 
 def two_whole(**told):
@@ -153,6 +153,96 @@ class BuyTest(unittest.TestCase):
     def test_sold_ones_still_take_room(self):
         calls = whole() + wood()[:4] * 2 + [make(), make(), buy()]
         self.assertEqual(tail(calls + wood()[:4], [make()]), [[-28]])
+
+
+class SizeOfTest(unittest.TestCase):
+    def test_the_size_then_the_arm(self):
+        sizes = ((300, 0), (379, 0), (380, 1), (419, 1), (420, 2), (449, 2), (450, 3), (479, 3), (480, 4),
+                 (519, 4), (520, 5), (559, 5), (560, 6), (589, 6), (590, 7), (800, 7))
+        for arm, size in sizes:
+            self.assertEqual(last([start(), pupil(arm), size_of()]), [size, arm, 0], arm)
+
+    def test_the_instrument_that_is_lent_to_them(self):
+        calls = two_whole() + [pupil(400)]
+        asked = [lend(1, 0), size_of(0), size_of(1), lend(0, 1), size_of(0), size_of(1), size_of(2)]
+        self.assertEqual(tail(calls, asked),
+                         [[0], [7, 600, 2], [7, 600, 0], [0], [7, 600, 2], [7, 600, 1], [1, 400, 0]])
+
+    def test_given_back(self):
+        self.assertEqual(tail(whole(), [lend(), give_back(), size_of()])[2], [7, 600, 0])
+
+    def test_a_sold_one_is_not_lent(self):
+        self.assertEqual(tail(two_whole(), [buy(0, 0), size_of(0), lend(1, 0), size_of(0)])[1::2],
+                         [[7, 600, 0], [7, 600, 2]])
+
+    def test_grown(self):
+        self.assertEqual(tail(whole(arm=589, size=6), [lend(), grow(0, 11), size_of()])[2], [7, 600, 1])
+
+    def test_none_there(self):
+        self.assertEqual(tail([start()], [size_of()]), [[-2]])
+        self.assertEqual(tail(whole(), [size_of(1), size_of(HIGHEST)]), [[-2], [-2]])
+
+
+class SmallTest(unittest.TestCase):
+    def lent_at_every_size(self):
+        """Instruments of size 2, 3 and 6, lent to the pupils 9, 0 and 4 whom they fit to the millimetre."""
+        calls = [start()] + wood(3) + [make(2), make(3), make(6), gauge()]
+        calls += [coat(0), coat(1), coat(2), days(1)] * 4 + strung(0) + strung(1) + strung(2)
+        calls += [pupil(arm) for arm in (479, 700, 700, 700, 589, 300, 300, 300, 300, 449)]
+        return calls + [lend(0, 9), lend(1, 0), lend(2, 4)]
+
+    def test_how_many_then_as_bits(self):
+        asked = [small(), grow(9), small(), grow(4), small(), grow(0), small()]
+        self.assertEqual(tail(self.lent_at_every_size(), asked)[::2],
+                         [[0, 0], [1, 512], [2, 512 + 16], [3, 512 + 16 + 1]])
+
+    def test_one_that_is_given_back_is_out(self):
+        calls = self.lent_at_every_size() + [grow(9), grow(0)]
+        self.assertEqual(tail(calls, [small(), give_back(0), small(), give_back(1), small()])[::2],
+                         [[2, 513], [1, 1], [0, 0]])
+
+    def test_a_sold_one_is_not_lent(self):
+        calls = whole(arm=600, size=3)
+        self.assertEqual(tail(calls, [buy(), small()])[1], [0, 0])
+
+    def test_of_the_same_size_still(self):
+        calls = whole(arm=380, size=1)
+        self.assertEqual(tail(calls, [lend(), grow(0, 39), small(), grow(0, 1), small()])[2::2], [[0, 0], [1, 1]])
+
+    def test_no_pupils(self):
+        self.assertEqual(last([start(), small()]), [0, 0])
+
+
+class OwesTest(unittest.TestCase):
+    def test_the_rent_so_far_then_what_counts(self):
+        asked = [owes(), lend(), owes(), days(3), owes(), days(2), owes(), give_back(), owes()]
+        self.assertEqual(tail(whole(rent=7), asked)[::2], [[0, 0], [0, 0], [21, 0], [35, 0], [0, 17]])
+
+    def test_what_counts_grows_by_each_half(self):
+        lent = [lend(), days(1), give_back()]
+        self.assertEqual(last(whole(rent=7) + lent * 3 + [owes()]), [0, 9])
+        self.assertEqual(last(whole(rent=7) + lent + [lend(), days(5), owes()]), [35, 3])
+
+    def test_what_a_purchase_uses_up(self):
+        calls = two_whole(rent=10) + [lend(), days(30), give_back()]
+        self.assertEqual(tail(calls, [buy(0, 0, 120), owes(), buy(1, 0, 100), owes()])[1::2], [[0, 30], [0, 0]])
+        self.assertEqual(tail(calls, [buy(0, 0, 150), owes()])[1], [0, 0])
+
+    def test_bought_ones_cost_no_rent(self):
+        self.assertEqual(tail(whole(), [buy(), days(5), owes()])[2], [0, 0])
+
+    def test_each_pupil_by_themselves(self):
+        calls = two_whole(rent=7) + [lend(0, 1), days(2), lend(1, 0), days(3)]
+        self.assertEqual(tail(calls, [owes(0), owes(1), give_back(0), owes(0), owes(1)]),
+                         [[21, 0], [35, 0], [35, 1], [21, 0], [0, 17]])
+
+    def test_the_greatest_rent(self):
+        calls = whole(rent=1000) + [lend()] + days_to(20000, 4)
+        self.assertEqual(tail(calls, [owes(), give_back(), owes()]), [[19996000, 0], [19996000, 0], [0, 9998000]])
+
+    def test_none_there(self):
+        self.assertEqual(tail([start()], [owes()]), [[-2]])
+        self.assertEqual(tail(whole(), [owes(1), owes(HIGHEST)]), [[-2], [-2]])
 
 
 if __name__ == "__main__":

@@ -1,7 +1,7 @@
 import unittest
 
-from tests.line import HIGHEST, aged, begun, best, coat, days, gauge, last, make, plank, pupil
-from tests.line import start, tail, tell, thin, whole, give_back, lend, buy
+from tests.line import HIGHEST, aged, back, begun, best, coat, days, gauge, last, make, owes, plank, pupil
+from tests.line import start, tail, tell, thin, view, whole, give_back, lend, buy
 
 
 class StartTest(unittest.TestCase):
@@ -36,12 +36,18 @@ class StartTest(unittest.TestCase):
     def test_again_all_is_as_at_first(self):
         calls = whole() + [start(), aged(0), best(0), coat(0), lend(0, 0), give_back(0)]
         self.assertEqual(tell(calls)[-6:], [[0], [-2], [-33], [-2], [-2], [-2]])
+        self.assertEqual(view(whole() + [lend(), days(3), back(), start()]), view([start()]))
         numbers = [days(5), plank(), gauge(), pupil()]
         self.assertEqual(tail(whole() + [start()], numbers), [[5], [0], [0], [0]])
 
     def test_again_nothing_counts_for_a_pupil(self):
         lent = [lend(), days(100), give_back()]
         self.assertEqual(last(whole() + lent + whole() + [buy(price=700)]), [700])
+
+    def test_again_tells_the_rent_anew(self):
+        lent = [lend(), days(10), owes()]
+        self.assertEqual(last(whole(rent=3) + whole(rent=8) + lent), [80, 0])
+        self.assertEqual(last(whole(rent=3) + [start(rent=1001)] + lent), [30, 0])
 
     def test_again_tells_anew(self):
         calls = begun(days=1, weights=[1] * 6) + begun(days=9, weights=[2] * 6)

@@ -9,6 +9,7 @@ SOLD = 2
 ZONES = 6
 THICKEST = 50
 STRINGS = 4
+MOST_SIZE = 7
 
 
 class Plank:
@@ -54,7 +55,10 @@ class Instrument:
 
 
 class Shop:
-    """All that changes between a start and the next one, and what that start told."""
+    """All that changes between a start and the next one, and what that start told.
+
+    paid is all that was paid, strung how many strings were ever put on.
+    """
 
     def __init__(self, drying, rent, most, weights):
         self.drying = drying
@@ -62,10 +66,48 @@ class Shop:
         self.most = most
         self.weights = weights
         self.day = 0
+        self.paid = 0
+        self.strung = 0
         self.planks = []
         self.gauges = []
         self.pupils = []
         self.instruments = []
+
+
+def copy_of_plank(plank):
+    copied = Plank(plank.kind, plank.tree, plank.density, plank.aged)
+    copied.used = plank.used
+    return copied
+
+
+def copy_of_pupil(pupil):
+    copied = Pupil(pupil.arm)
+    copied.credit = pupil.credit
+    return copied
+
+
+def copy_of_instrument(instrument):
+    copied = Instrument(instrument.size, list(instrument.planks), instrument.dry_day)
+    copied.plates = [list(zones) for zones in instrument.plates]
+    copied.coats = instrument.coats
+    copied.strings = list(instrument.strings)
+    copied.place = instrument.place
+    copied.pupil = instrument.pupil
+    copied.since = instrument.since
+    return copied
+
+
+def copy_of_shop(shop):
+    """A shop as it is now, that can be changed while the other stays."""
+    copied = Shop(shop.drying, shop.rent, shop.most, shop.weights)
+    copied.day = shop.day
+    copied.paid = shop.paid
+    copied.strung = shop.strung
+    copied.planks = [copy_of_plank(plank) for plank in shop.planks]
+    copied.gauges = [Gauge(gauge.mass, gauge.left) for gauge in shop.gauges]
+    copied.pupils = [copy_of_pupil(pupil) for pupil in shop.pupils]
+    copied.instruments = [copy_of_instrument(instrument) for instrument in shop.instruments]
+    return copied
 
 
 def refusal_in_shop(shop, k):

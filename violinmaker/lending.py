@@ -14,8 +14,12 @@ def is_whole(shop, instrument):
     return is_varnished(shop, instrument) and None not in instrument.strings
 
 
-def has_one_lent(shop, p):
-    return any([instrument.place == LENT and instrument.pupil == p for instrument in shop.instruments])
+def lent_to(shop, p):
+    """The number of the instrument that is lent to a pupil, or None."""
+    for k, instrument in enumerate(shop.instruments):
+        if instrument.place == LENT and instrument.pupil == p:
+            return k
+    return None
 
 
 def rent_so_far(shop, instrument):
@@ -33,7 +37,7 @@ def vi_lend(shop, k, p):
     refusal = refusal_between(shop, k, p)
     if refusal != NO_REFUSAL:
         return [refusal]
-    if has_one_lent(shop, p):
+    if lent_to(shop, p) is not None:
         return [ALREADY]
     instrument = shop.instruments[k]
     if not is_whole(shop, instrument):
@@ -56,6 +60,7 @@ def vi_return(shop, k):
     p = instrument.pupil
     pupil = shop.pupils[p]
     pupil.credit += rent // 2
+    shop.paid += rent
     instrument.place = IN_SHOP
     instrument.pupil = None
     instrument.since = None
@@ -74,6 +79,7 @@ def vi_buy(shop, k, p, price):
     pupil = shop.pupils[p]
     used_up = min(pupil.credit, price)
     pupil.credit -= used_up
+    shop.paid += price - used_up
     instrument.place = SOLD
     instrument.pupil = p
     return [price - used_up]

@@ -1,7 +1,7 @@
 """Plates, and how they are scraped to a pitch."""
 
 from violinmaker.goods import ZONES, refusal_in_shop
-from violinmaker.refusals import CANNOT_BE, NO_REFUSAL, NONE_LEFT, NOT_AS_TOLD, NOT_FITTING
+from violinmaker.refusals import CANNOT_BE, NO_REFUSAL, NONE_LEFT, NONE_THERE, NOT_AS_TOLD, NOT_FITTING
 
 THINNEST = 20
 MOST_PLATE = 1
@@ -31,6 +31,15 @@ def scraped(weights, zones, want):
         zone = zone_to_scrape(weights, thinner)
         thinner[zone] -= 1
     return thinner
+
+
+def refusal_of_plate(shop, k, plate):
+    """The refusal that is due ahead of all else of a call that only asks for a plate."""
+    if k >= len(shop.instruments):
+        return NONE_THERE
+    if plate > MOST_PLATE:
+        return NOT_AS_TOLD
+    return NO_REFUSAL
 
 
 def vi_thin(shop, k, plate, zone):
@@ -63,3 +72,29 @@ def vi_tune(shop, k, plate, want):
     before = sum(instrument.plates[plate])
     instrument.plates[plate] = scraped(shop.weights, instrument.plates[plate], want)
     return [before - sum(instrument.plates[plate])]
+
+
+def vi_pitch(shop, k, plate):
+    refusal = refusal_of_plate(shop, k, plate)
+    if refusal != NO_REFUSAL:
+        return [refusal]
+    return [pitch_of(shop.weights, shop.instruments[k].plates[plate])]
+
+
+def vi_fewest(shop, k, plate, want):
+    refusal = refusal_of_plate(shop, k, plate)
+    if refusal != NO_REFUSAL:
+        return [refusal]
+    if lowest_pitch(shop.weights) > want:
+        return [CANNOT_BE]
+    zones = shop.instruments[k].plates[plate]
+    thinner = scraped(shop.weights, zones, want)
+    return [sum(zones) - sum(thinner), pitch_of(shop.weights, thinner)]
+
+
+def vi_plate(shop, k, plate):
+    refusal = refusal_of_plate(shop, k, plate)
+    if refusal != NO_REFUSAL:
+        return [refusal]
+    zones = shop.instruments[k].plates[plate]
+    return [sum(zones)] + zones

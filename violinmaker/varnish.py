@@ -6,8 +6,12 @@ from violinmaker.refusals import ALREADY, NO_REFUSAL, NOT_READY
 ALL_COATS = 4
 
 
+def days_to_dry(shop, instrument):
+    return max(0, instrument.dry_day - shop.day)
+
+
 def is_dry(shop, instrument):
-    return instrument.dry_day <= shop.day
+    return days_to_dry(shop, instrument) == 0
 
 
 def is_varnished(shop, instrument):

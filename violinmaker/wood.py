@@ -1,6 +1,6 @@
 """Planks, their best pairs, and the instruments that are made of them."""
 
-from violinmaker.goods import Instrument, Plank
+from violinmaker.goods import Instrument, MOST_SIZE, Plank
 from violinmaker.refusals import CANNOT_BE, NO_ROOM, NONE_THERE, NOT_AS_TOLD
 
 SPRUCE = 0
@@ -11,7 +11,6 @@ MOST_DENSITY = 800
 MOST_AGED = 10000
 MOST_PLANKS = 16
 MOST_INSTRUMENTS = 3
-MOST_SIZE = 7
 DAYS_TO_LIE = 1825
 
 

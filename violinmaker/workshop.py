@@ -1,20 +1,25 @@
 """The calls of a line, read one behind another, and what they answer."""
 
-from violinmaker.daybook import Daybook, vi_days, vi_start
+from violinmaker.asking import vi_free, vi_look, vi_owes, vi_size, vi_small, vi_sums, vi_whole
+from violinmaker.daybook import Daybook, keep_change, vi_again, vi_back, vi_days, vi_start, vi_state
+from violinmaker.goods import copy_of_shop
 from violinmaker.lending import vi_buy, vi_lend, vi_return
-from violinmaker.plates import vi_thin, vi_tune
+from violinmaker.plates import vi_fewest, vi_pitch, vi_plate, vi_thin, vi_tune
 from violinmaker.pupils import vi_grow, vi_pupil
-from violinmaker.strings import vi_gauge, vi_string, vi_unstring
+from violinmaker.strings import vi_gauge, vi_nearest, vi_pull, vi_pulls, vi_stock, vi_string, vi_unstring
 from violinmaker.varnish import vi_coat
 from violinmaker.wood import vi_aged, vi_best, vi_make, vi_plank
 
 # By a call's number: how many whole numbers it has, a row that may stand behind them not among these.
-COUNTS = (3, 4, 2, 1, 1, 3, 3, 1, 3, 2, 1, 2, 2, 1, 3, 1, 1)
+COUNTS = (3, 4, 2, 1, 1, 3, 3, 1, 3, 2, 1, 2, 2, 1, 3, 1, 1, 2, 3, 2, 3, 2, 1, 1, 1, 0, 1, 1, 1, 1, 0, 0, 0, 0)
 
 START = 0
 LAST_OF_STOCK = 4
 LAST_OF_MAKING = 9
-LAST_OF_PUPILS = 14
+LAST_CHANGE = 14
+LAST_OF_WOOD = 19
+LAST_OF_INSTRUMENTS = 23
+LAST_QUESTION = 30
 
 
 def end_of_call(calls, at):
@@ -59,23 +64,83 @@ def answer_of_pupils(shop, number, row):
     return vi_buy(shop, row[0], row[1], row[2])
 
 
-def answer_of_asking(shop, number, row):
+def answer_of_change(daybook, number, row):
+    # A copy is changed, so that the shop as it was can be taken back to.
+    shop = copy_of_shop(daybook.shop)
+    if number <= LAST_OF_STOCK:
+        numbers = answer_of_stock(shop, number, row)
+    elif number <= LAST_OF_MAKING:
+        numbers = answer_of_making(shop, number, row)
+    else:
+        numbers = answer_of_pupils(shop, number, row)
+    if numbers[0] >= 0:
+        keep_change(daybook, shop)
+    return numbers
+
+
+def told_of_wood(shop, number, row):
     if number == 15:
         return vi_best(shop, row[0])
-    return vi_aged(shop, row[0])
+    if number == 16:
+        return vi_aged(shop, row[0])
+    if number == 17:
+        return vi_pitch(shop, row[0], row[1])
+    if number == 18:
+        return vi_fewest(shop, row[0], row[1], row[2])
+    return vi_plate(shop, row[0], row[1])
+
+
+def told_of_instruments(shop, number, row):
+    if number == 20:
+        return vi_nearest(shop, row[0], row[1], row[2])
+    if number == 21:
+        return vi_pull(shop, row[0], row[1])
+    if number == 22:
+        return vi_pulls(shop, row[0])
+    return vi_whole(shop, row[0])
+
+
+def told_of_shop(shop, number, row):
+    if number == 24:
+        return vi_size(shop, row[0])
+    if number == 25:
+        return vi_small(shop)
+    if number == 26:
+        return vi_free(shop, row[0])
+    if number == 27:
+        return vi_owes(shop, row[0])
+    if number == 28:
+        return vi_look(shop, row[0])
+    if number == 29:
+        return vi_stock(shop, row[0])
+    return vi_sums(shop)
+
+
+def answer_of_question(shop, number, row):
+    if number <= LAST_OF_WOOD:
+        return told_of_wood(shop, number, row)
+    if number <= LAST_OF_INSTRUMENTS:
+        return told_of_instruments(shop, number, row)
+    return told_of_shop(shop, number, row)
+
+
+def answer_of_changes(daybook, number):
+    if number == 31:
+        return vi_back(daybook)
+    if number == 32:
+        return vi_again(daybook)
+    return vi_state(daybook)
 
 
 def answer_of_call(daybook, number, row):
     """All numbers that one call answers; row is what stands behind its own number."""
     if number == START:
         return vi_start(daybook, row[0], row[1], row[2], row[4:])
-    if number <= LAST_OF_STOCK:
-        return answer_of_stock(daybook.shop, number, row)
-    if number <= LAST_OF_MAKING:
-        return answer_of_making(daybook.shop, number, row)
-    if number <= LAST_OF_PUPILS:
-        return answer_of_pupils(daybook.shop, number, row)
-    return answer_of_asking(daybook.shop, number, row)
+    if number <= LAST_CHANGE:
+        return answer_of_change(daybook, number, row)
+    if number <= LAST_QUESTION:
+        return answer_of_question(daybook.shop, number, row)
+    return answer_of_changes(daybook, number)
 
 
 def answers(calls):
